@@ -1,0 +1,1 @@
+"""Sixtyfold: reckoning by sixties without a point."""

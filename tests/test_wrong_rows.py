@@ -1,0 +1,33 @@
+"""Promise [2]: what is handed in as a row and is none is refused with BadRow, ahead of all else."""
+
+import unittest
+
+from sixtyfold.errors import BadRow
+from tests.samples import HIGHEST, LOWEST, TAKERS, wrong_rows
+
+TAKERS_OF_EACH_ROW = (
+    "times, one", "times, other", "times, both", "cast", "written", "factors", "part, both", "squared",
+    "near_side", "near_side, odd",
+)
+
+
+class WrongRows(unittest.TestCase):
+
+    def test_each_function_refuses_each_wrong_row(self):
+        wrong = wrong_rows()
+        for name, taker in TAKERS.items():
+            for at, bad in enumerate(wrong):
+                with self.subTest(name=name, at=at, length=len(bad)):
+                    with self.assertRaises(BadRow) as caught:
+                        taker(bad)
+                    self.assertIs(type(caught.exception), BadRow)
+
+    def test_the_edges_of_what_a_row_is_are_taken(self):
+        for good in (LOWEST, (59,), (1, 0, 1), (1,) + (0,) * 10 + (1,), (59,) + (0,) * 10 + (59,), HIGHEST):
+            for name in TAKERS_OF_EACH_ROW:
+                with self.subTest(name=name, good=good):
+                    TAKERS[name](good)
+
+
+if __name__ == "__main__":
+    unittest.main()
