@@ -10,29 +10,18 @@ PRIMES = (2, 3, 5)
 
 def factors(row):
     """How often 2, 3 and 5 go into a row's whole, and what is left without them."""
-    left = whole_of(row)
-    counts = []
-    for prime in PRIMES:
-        often = 0
-        while left % prime == 0:
-            left //= prime
-            often += 1
-        counts.append(often)
-    return tuple(counts), left
+    return factors_of(whole_of(row))
 
 
 def part(one, other):
     """The row that times the other row is the one."""
     number = whole_of(one)
-    _, left = factors(other)
+    divisor = whole_of(other)
+    left = left_of(divisor)
     if number % left != 0:
         raise NotTurned(left // gcd(left, number))
-    divisor = whole_of(other) // left
-    number //= left
-    # Only 2, 3 and 5 go into the divisor now, so enough sixties bring it to an end.
-    while number % divisor != 0:
-        number *= 60
-    return row_of(number // divisor)
+    quotient, _ = parted(number, divisor)
+    return row_of(quotient)
 
 
 def turned(row):
@@ -61,3 +50,34 @@ def powers_below(prime, limit):
         powers.append(power)
         power *= prime
     return powers
+
+
+def factors_of(number):
+    """How often 2, 3 and 5 go into a number above 0, and what is left without them."""
+    left = number
+    counts = []
+    for prime in PRIMES:
+        often = 0
+        while left % prime == 0:
+            left //= prime
+            often += 1
+        counts.append(often)
+    return tuple(counts), left
+
+
+def left_of(number):
+    """What is left of a number above 0 without 2, 3 and 5."""
+    _, left = factors_of(number)
+    return left
+
+
+def parted(number, divisor):
+    """A number, taken times sixty until a divisor goes into it, parted by this; and how often it was taken so.
+
+    What is left of the divisor must go into the number: then enough sixties bring it to an end.
+    """
+    sixties = 0
+    while number % divisor != 0:
+        number *= 60
+        sixties += 1
+    return number // divisor, sixties

@@ -1,7 +1,9 @@
 """Rows, wrong rows and a second way of reckoning, for the tests."""
 
 from sixtyfold.rows import cast, times, written
+from sixtyfold.slips import slips
 from sixtyfold.squares import near_side, side, squared
+from sixtyfold.tables import faults, table
 from sixtyfold.turning import factors, part, turned
 
 LOWEST = (1,)
@@ -88,4 +90,9 @@ TAKERS = {
     "side": side,
     "near_side": lambda bad: near_side(bad, False, 1),
     "near_side, odd": lambda bad: near_side(bad, True, 6),
+    "slips, due": lambda bad: slips(bad, (2,)),
+    "slips, due and told": lambda bad: slips(bad, bad),
+    "table": table,
+    "faults": lambda bad: faults(bad, [(2,)] * 23),
+    "faults, told": lambda bad: faults(bad, [bad] * 23),
 }

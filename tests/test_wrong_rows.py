@@ -3,11 +3,13 @@
 import unittest
 
 from sixtyfold.errors import BadRow
+from sixtyfold.slips import slips
+from sixtyfold.tables import faults, head_of, table
 from tests.samples import HIGHEST, LOWEST, TAKERS, wrong_rows
 
 TAKERS_OF_EACH_ROW = (
     "times, one", "times, other", "times, both", "cast", "written", "factors", "part, both", "squared",
-    "near_side", "near_side, odd",
+    "near_side", "near_side, odd", "slips, due", "slips, due and told", "table", "faults", "faults, told",
 )
 
 
@@ -27,6 +29,13 @@ class WrongRows(unittest.TestCase):
             for name in TAKERS_OF_EACH_ROW:
                 with self.subTest(name=name, good=good):
                     TAKERS[name](good)
+
+    def test_figures_that_are_told_are_no_rows_and_not_refused(self):
+        due = table((7,))
+        for told in wrong_rows():
+            self.assertIs(type(slips((7,), told)), list)
+            self.assertEqual(faults((7,), [told] + due[1:]), [(0, slips((7,), told))])
+            self.assertEqual(head_of([told] + due[1:]), ((7,), [(0, slips((7,), told))]))
 
 
 if __name__ == "__main__":
